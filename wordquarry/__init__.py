@@ -1,0 +1,1 @@
+"""Wordquarry: a search engine whose rules are decided for all texts."""
