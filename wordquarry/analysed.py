@@ -86,7 +86,8 @@ def settled_word(analyzer):
         kind, left, right, rests = run
         if rule.parts(kind, rule.kind(sign)):
             return BROKEN
-        return rule.kind(sign), *runs.grown(left, right, rests, sign)
+        left, right, rests = runs.grown(left, right, rests, sign)
+        return rule.kind(sign), left, right, rests
 
     def is_found(state):
         if not words.is_good(state[0]):

@@ -48,7 +48,7 @@ class WordWays:
             raise TooMany("states", STATES + 1, STATES)
         return self._with_ends(form, self._kinds_after((kind,), sign))
 
-    def is_good(self, state):
+    def is_end(self, state):
         return state == (BEHIND, "", BEGIN)
 
     def letters(self):
@@ -117,7 +117,7 @@ def machine_of_words(rule):
     ways = WordWays(rule)
     letters = ways.letters()
     firsts = list({letters[sign]: True for sign in letters})
-    told = machine_of_lots(ways.firsts(), ways.behind, ways.is_good, firsts, None)
+    told = machine_of_lots(ways.firsts(), ways.behind, ways.is_end, firsts, None)
     rows = [[told.after(state, letters[sign]) for sign in letters] + [told.after(state, None)]
             for state in range(told.states)]
     return Machine(list(letters), rows, told.good)
