@@ -206,6 +206,7 @@ class Names(unittest.TestCase):
             for method in own:
                 if method.startswith("__"):
                     self.assertIn(method, DUNDERS, name)
+        self.assertFalse(methods & told)
 
 
 class Forms(unittest.TestCase):

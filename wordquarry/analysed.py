@@ -37,7 +37,7 @@ def shortest_text(analyzer, word):
 
     def step(state, sign):
         form, kind = state
-        if sign not in rule.images or rule.parts(kind, rule.kind(sign)):
+        if sign not in rule.images or rule.is_parted(kind, rule.kind(sign)):
             return None
         return forms.grown(form, rule.images[sign]), rule.kind(sign)
 
@@ -84,7 +84,7 @@ def settled_word(analyzer):
         if run == BROKEN or sign not in rule.images:
             return BROKEN
         kind, left, right, rests = run
-        if rule.parts(kind, rule.kind(sign)):
+        if rule.is_parted(kind, rule.kind(sign)):
             return BROKEN
         left, right, rests = runs.grown(left, right, rests, sign)
         return rule.kind(sign), left, right, rests

@@ -32,7 +32,7 @@ class CutRule:
             return SMALL_KIND if self.changes else OTHER_KIND
         return kind if self.changes or self.rises else OTHER_KIND
 
-    def parts(self, left, right):
+    def is_parted(self, left, right):
         """Whether a run is parted between neighbouring signs of these kinds."""
         if self.rises and left == SMALL_KIND and right == CAPITAL_KIND:
             return True
@@ -50,7 +50,7 @@ class CutRule:
                 start = None
             elif start is None:
                 start = at
-            elif self.parts(kind_of(text[at - 1]), kind_of(text[at])):
+            elif self.is_parted(kind_of(text[at - 1]), kind_of(text[at])):
                 runs.append((start, at))
                 start = at
         if start is not None:

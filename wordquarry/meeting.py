@@ -25,25 +25,25 @@ class Meeting:
         self._many = {}
         self._looked = {}
 
-    def many(self, place):
+    def many_from(self, place):
         """How many words from a place on are met."""
         if place not in self._many:
             found = 0
             if self.ends_at(place):
                 found = 1
             for further in self._further(place):
-                found += self.many(further)
+                found += self.many_from(further)
             self._many[place] = found
         return self._many[place]
 
-    def looked(self, place):
+    def looked_from(self, place):
         """How many beginnings from a place on also begin a row that is accepted."""
         if place not in self._looked:
             found = 0
             if self.machine.is_live(place[1]):
                 found = 1
                 for further in self._further(place):
-                    found += self.looked(further)
+                    found += self.looked_from(further)
             self._looked[place] = found
         return self._looked[place]
 
@@ -54,7 +54,7 @@ class Meeting:
         return [(target, self.machine.after(place[1], sign))
                 for sign, _, target in self.terms.table[place[0]][1]]
 
-    def pairs(self, text, most):
+    def first_pairs(self, text, most):
         """The first pairs that are met, up to most of them (None: all), whose words are not ahead
         of a beginning."""
         found = []
@@ -71,7 +71,7 @@ class Meeting:
                 sign, more, target = arcs[at]
                 ways.append((state, word, output, at + 1, read))
                 further = self.machine.after(read, sign)
-                if self.many((target, further)) > 0:
+                if self.many_from((target, further)) > 0:
                     ways.append((target, word + sign, output + more, -1, further))
         return tuple(found)
 
@@ -86,18 +86,18 @@ class Meeting:
 def met(terms, pattern):
     """The pairs of a map whose words the pattern means."""
     meeting = Meeting(terms, plain_machine(pattern))
-    return Met(meeting.pairs("", None), meeting.looked((terms.root, 0)))
+    return Met(meeting.first_pairs("", None), meeting.looked_from((terms.root, 0)))
 
 
 def first_met(terms, pattern, text):
     """The first such pair whose word is not ahead of a beginning, or None."""
-    pairs = Meeting(terms, plain_machine(pattern)).pairs(text, 1)
+    pairs = Meeting(terms, plain_machine(pattern)).first_pairs(text, 1)
     return pairs[0] if len(pairs) > 0 else None
 
 
 def count_met(terms, pattern):
     """How many such pairs there are."""
-    return Meeting(terms, plain_machine(pattern)).many((terms.root, 0))
+    return Meeting(terms, plain_machine(pattern)).many_from((terms.root, 0))
 
 
 class NearMeeting:
@@ -108,7 +108,7 @@ class NearMeeting:
         self._steps = steps
         self._prices = {}
 
-    def prices(self, state, near):
+    def prices_from(self, state, near):
         """The unlike prices of the words from a place on, ascending."""
         if (state, near) not in self._prices:
             found = {}
@@ -119,7 +119,7 @@ class NearMeeting:
             for sign, _, target in arcs:
                 further = self._steps.step(near, sign)
                 if further != ():
-                    for one in self.prices(target, further):
+                    for one in self.prices_from(target, further):
                         found[one] = True
             self._prices[state, near] = tuple(sorted(found))
         return self._prices[state, near]
@@ -127,10 +127,10 @@ class NearMeeting:
     def words(self, price, most):
         """The first words with a price, in order, up to most of them."""
         found = []
-        ways = [(self._terms.root, self._steps.first(), "")]
+        ways = [(self._terms.root, self._steps.begun(), "")]
         while len(ways) > 0 and len(found) < most:
             state, near, word = ways.pop()
-            if price not in self.prices(state, near):
+            if price not in self.prices_from(state, near):
                 continue
             end, arcs = self._terms.table[state]
             if end is not None and self._steps.price(near) == price:

@@ -47,7 +47,7 @@ def searched_pair(one, other, only_beyond):
                     return rows[0][:len(rows[0]) + min(lead, 0)], rows[1][:len(rows[1]) - max(lead, 0)]
                 kept = kept_signs(longer, now)
                 key = state_key(kept, now, named)
-                if key not in met and (goes_on(now[0]) or not only_beyond and goes_on(now[1])):
+                if key not in met and (may_be_near(now[0]) or not only_beyond and may_be_near(now[1])):
                     met[key] = True
                     further.append((kept, now[0], now[1], rows))
                     if len(met) > STATES:
@@ -56,7 +56,7 @@ def searched_pair(one, other, only_beyond):
     return None
 
 
-def goes_on(kept):
+def may_be_near(kept):
     """Whether any pair may still be near."""
     return len(kept[0]) + len(kept[1]) > 0
 

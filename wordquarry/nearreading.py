@@ -59,7 +59,7 @@ class NearReader:
         self._kind = kind if kind == OWN_CHANGE else kind + 1
         self.line = ""
 
-    def is_done(self):
+    def is_whole(self):
         """Whether what was read is a rule."""
         return self._kind_of_line() == LIMIT
 

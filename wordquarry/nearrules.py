@@ -104,7 +104,7 @@ def read_rule(text):
             raise BadText(line, column)
         reader.read(sign)
         line, column = (line + 1, 1) if sign == "\n" else (line, column + 1)
-    if not reader.is_done():
+    if not reader.is_whole():
         raise BadText(line, column)
     reader.end()
     return reader

@@ -15,7 +15,7 @@ class NearSteps:
         self._rest = word[kept:]
         self._far = rule.limit + 1
 
-    def first(self):
+    def begun(self):
         return 0 if len(self._kept) > 0 else self._first_prices()
 
     def step(self, state, sign):

@@ -6,7 +6,7 @@ from wordquarry.shares import Share
 def best_pairs(pairs):
     """The pairs that no other one beats, each once, by ascending counts."""
     found = []
-    for pair in sorted(pairs, key=lambda pair: (-pair[0], pair[1])):
+    for pair in sorted(pairs, key=lambda row: (-row[0], row[1])):
         if len(found) == 0 or pair[1] < found[-1][1]:
             found.append((pair[0], pair[1]))
     return tuple(found[::-1])

@@ -108,7 +108,7 @@ def near_machine(word, rule):
         return state[0] and steps.price(state[1]) is not None
 
     named = unlike_signs([word] + [one + two for one, two in rule.own_prices])
-    return machine_of((False, steps.first()), step, is_end, named)
+    return machine_of((False, steps.begun()), step, is_end, named)
 
 
 def span_machine(leaf):

@@ -140,15 +140,15 @@ class PatternReader:
             self._found.append(prefix(word))
         elif self._next() == "~":
             self._take("~<")
-            self._found.append(near(word, self._rule()))
+            self._found.append(near(word, self._near_rule()))
         else:
             self._found.append(plain(word))
 
-    def _rule(self):
+    def _near_rule(self):
         """Reads a near rule and the sign > behind it."""
         reader = NearReader()
         told = []
-        while self._next() != ">" or reader.wants_sign() or not reader.is_done():
+        while self._next() != ">" or reader.wants_sign() or not reader.is_whole():
             sign = self._rule_sign(reader)
             reader.read(sign)
             told.append(sign)

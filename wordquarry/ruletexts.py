@@ -53,15 +53,15 @@ def check_ends(heads):
 def fault_of(pieces, told):
     """The index of the first piece with which no line goes on behind the told ones, or how many
     pieces there are."""
-    if not may_begin(pieces[0], told):
+    if not line_may_begin(pieces[0], told):
         return 0
     for at in range(1, len(pieces)):
-        if not goes_on(pieces[:at], pieces[at], told):
+        if not line_goes_on(pieces[:at], pieces[at], told):
             return at
     return len(pieces)
 
 
-def may_begin(head, told):
+def line_may_begin(head, told):
     """Whether a line may begin so behind the told ones."""
     if head not in SORTS:
         return False
@@ -72,7 +72,7 @@ def may_begin(head, told):
     return head != "part" or len([line for line in told if line[0] == "part"]) < 2
 
 
-def goes_on(ahead, piece, told):
+def line_goes_on(ahead, piece, told):
     """Whether a line that begins with some right pieces may go on with one more."""
     head = ahead[0]
     if head == "cut":

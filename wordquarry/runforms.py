@@ -2,8 +2,8 @@
 
 The changed word of a run is kept as its form: the word itself as long as a named word may come
 of it; otherwise its longest end with which something that is looked for begins, and ahead of it
-fillers for the other signs, no more than matter. The steps do with a form what they do with the
-word: they never look at a filler and never take one away."""
+fillers for the other signs, one at least, but no more than matter. The steps do with a form what
+they do with the word: they never look at a filler and never take one away."""
 
 from wordquarry.wordsteps import words_after
 
@@ -18,9 +18,9 @@ class RunForms:
         self.rule = rule
         self._ends = {"": True}
         self._named = {"": True}
-        self._lengths = [0]
+        # longer words are dropped, kept and cut as words of this length are
+        self._enough = 0
         self.outputs = self._told_outputs(list(named))
-        self.longest = max(self._lengths) + 1
         self.most_cut = max([len(cut) for cut, _ in self.outputs])
         self.most_put = max([len(put) for _, put in self.outputs])
         self.constants = constants_of(rule.steps)
@@ -42,7 +42,8 @@ class RunForms:
             elif kind == "told":
                 self._look_for(step[2], pairs)
             else:
-                self._lengths.extend([step[2] + len(cut) for cut, _ in pairs])
+                for cut, put in pairs:
+                    self._enough = max(self._enough, step[2] + 1 + len(cut) - len(put))
         outputs = list({pair: True for pair in outputs + pairs})
         self._look_for(named, outputs)
         return outputs
@@ -52,13 +53,15 @@ class RunForms:
         found = {pair: True for pair in pairs}
         for cut, put in pairs:
             for end, new, ahead in group:
-                self._lengths.append(ahead + len(end) + len(cut))
                 if put.endswith(end):
                     found[cut, put[:len(put) - len(end)] + new] = True
                 elif end.endswith(put):
                     longer = end[:len(end) - len(put)] + cut
                     found[longer, new] = True
-                    self._add_beginnings(longer, self._ends)
+                    add_beginnings(longer, self._ends)
+                else:
+                    continue
+                self._enough = max(self._enough, ahead + len(end) + len(cut) - len(put))
         return list(found)
 
     def _look_for(self, words, pairs):
@@ -66,12 +69,7 @@ class RunForms:
         for word in words:
             for cut, put in pairs:
                 if word.endswith(put):
-                    self._add_beginnings(word[:len(word) - len(put)] + cut, self._named)
-
-    def _add_beginnings(self, word, beginnings):
-        self._lengths.append(len(word))
-        for at in range(len(word) + 1):
-            beginnings[word[:at]] = True
+                    add_beginnings(word[:len(word) - len(put)] + cut, self._named)
 
     def is_named(self, form):
         """Whether a named word may still come of a form: it is the word itself then."""
@@ -94,8 +92,8 @@ class RunForms:
         at = 0
         while word[at:] not in self._ends:
             at += 1
-        many = min(len(word), self.longest)
-        return FILLER * (many - len(word) + at) + word[at:]
+        fillers = min(at, max(self._enough - len(word) + at, 1))
+        return FILLER * fillers + word[at:]
 
     def outcome(self, form):
         """The words of a run, with the fillers of its form, and whether it takes a place."""
@@ -105,7 +103,14 @@ class RunForms:
 
     def is_spent(self, form):
         """Whether no words come of a run, however it goes on."""
-        return len(form) == self.longest and len(self.outcome(form)[0]) == 0
+        if not form.startswith(FILLER) or len(form) < self._enough:
+            return False
+        return len(self.outcome(form)[0]) == 0
+
+
+def add_beginnings(word, beginnings):
+    for at in range(len(word) + 1):
+        beginnings[word[:at]] = True
 
 
 def constants_of(steps):

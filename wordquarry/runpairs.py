@@ -75,7 +75,7 @@ class RunPair:
             return False
         if rests == APART or len(one) == 0:
             return len(one) == 0
-        return told_words(left, rests[0], one) == told_words(right, rests[1], two)
+        return shown_words(left, rests[0], one) == shown_words(right, rests[1], two)
 
 
 def loses(images, others):
@@ -91,7 +91,7 @@ def same_beginning(one, two):
     return at
 
 
-def told_words(form, rest, words):
+def shown_words(form, rest, words):
     """The words of a run without what is forgotten of its beginning."""
     kept = kept_of(form)
     firm = rest[:len(rest) - kept]

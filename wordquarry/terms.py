@@ -29,6 +29,7 @@ class TermMap:
             many = sum([self._many[target] for _, _, target in arcs])
             self._many.append(many if end is None else many + 1)
         self.size = self._many[-1]
+        self._sums = sums_of_states(self.table)
 
     def __eq__(self, other):
         return isinstance(other, TermMap) and self.told == other.told
@@ -116,7 +117,6 @@ class TermMap:
         """The first word with an output, None if no word has it."""
         if not is_integer(output) or output < self.first:
             return None
-        sums = sums_of_states(self.table)
         failed = {}
         ways = [(self.root, "", output - self.first, -1)]
         while len(ways) > 0:
@@ -130,7 +130,7 @@ class TermMap:
                 continue
             ways.append((state, word, rest, at + 1))
             sign, more, target = arcs[at]
-            if may_have(sums[target], rest - more) and (target, rest - more) not in failed:
+            if may_have(self._sums[target], rest - more) and (target, rest - more) not in failed:
                 ways.append((target, word + sign, rest - more, -1))
         return None
 

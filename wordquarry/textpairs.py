@@ -31,9 +31,9 @@ class TextPair:
         right_in = sign in self.two.rule.images
         next_kinds = (self.one.rule.kind(sign) if left_in else 0,
                       self.two.rule.kind(sign) if right_in else 0)
-        left_ends = not left_in or self.one.rule.parts(kinds[0], next_kinds[0])
-        right_ends = not right_in or self.two.rule.parts(kinds[1], next_kinds[1])
-        more = self.places(left if left_ends else None, right if right_ends else None, rests, more)
+        left_ends = not left_in or self.one.rule.is_parted(kinds[0], next_kinds[0])
+        right_ends = not right_in or self.two.rule.is_parted(kinds[1], next_kinds[1])
+        more = self.places_behind(left if left_ends else None, right if right_ends else None, rests, more)
         if more is None:
             return UNLIKE
         left = None if left_ends else left
@@ -58,7 +58,7 @@ class TextPair:
         if len(self._forms) > STATES:
             raise TooMany("states", STATES + 1, STATES)
 
-    def places(self, left, right, rests, more):
+    def places_behind(self, left, right, rests, more):
         """How many more places the first one has taken when these runs have ended; None if
         tokens are unlike by then."""
         left_words, left_takes = self.one.outcome(left) if left is not None else ((), False)
@@ -78,7 +78,7 @@ class TextPair:
         if state == UNLIKE:
             return True
         _, left, right, rests, more = state
-        return self.places(left, right, rests, more) is None
+        return self.places_behind(left, right, rests, more) is None
 
 
 def run_grown(forms, form, sign):

@@ -25,7 +25,6 @@ class WordWays:
         for sign in rule.images:
             known = self._kinds.setdefault(rule.images[sign], {})
             known[rule.kind(sign)] = True
-        self._met = {}
         self._ended = {}
 
     def firsts(self):
@@ -43,13 +42,25 @@ class WordWays:
         if where == BEHIND:
             return [(BEHIND, text[1:], BEGIN)] if text.startswith(sign) else []
         form = self.forms.grown(text, sign)
-        self._met[form] = True
-        if len(self._met) > STATES:
-            raise TooMany("states", STATES + 1, STATES)
         return self._with_ends(form, self._kinds_after((kind,), sign))
 
     def is_end(self, state):
         return state == (BEHIND, "", BEGIN)
+
+    def check_forms(self, letters):
+        """Refuses more forms than are let, before anything is done with them."""
+        forms = [""]
+        met = {"": True}
+        at = 0
+        while at < len(forms):
+            for sign in letters:
+                form = self.forms.grown(forms[at], sign)
+                if form not in met:
+                    met[form] = True
+                    forms.append(form)
+                    if len(forms) > STATES:
+                        raise TooMany("states", STATES + 1, STATES)
+            at += 1
 
     def letters(self):
         """The signs of words, and for each the first one that does all that it does."""
@@ -84,7 +95,7 @@ class WordWays:
 
     def _next_kinds(self, kinds, further):
         return [kind for kind in further
-                if any([one == BEGIN or not self.rule.parts(one, kind) for one in kinds])]
+                if any([one == BEGIN or not self.rule.is_parted(one, kind) for one in kinds])]
 
     def _may_follow(self, kinds, text):
         """Whether a run may go on so, seen by its changed signs."""
@@ -117,6 +128,7 @@ def machine_of_words(rule):
     ways = WordWays(rule)
     letters = ways.letters()
     firsts = list({letters[sign]: True for sign in letters})
+    ways.check_forms(firsts)
     told = machine_of_lots(ways.firsts(), ways.behind, ways.is_end, firsts, None)
     rows = [[told.after(state, letters[sign]) for sign in letters] + [told.after(state, None)]
             for state in range(told.states)]
