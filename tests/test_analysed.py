@@ -70,6 +70,9 @@ class Unlike(unittest.TestCase):
     def test_beyond_forty_signs(self):
         one = read("cut letters", "drop over 40")
         self.assertEqual(unlike_tokens(one, read("cut letters")), "A" * 41)
+        one = read("cut letters", "leave xz", "drop under 40")
+        two = read("cut letters", "leave y", "fold x y", "drop under 40")
+        self.assertEqual(unlike_tokens(one, two), "A" * 39 + "x")
         one = read("cut letters", "end a off 20", "end b off 20", "drop under 22")
         two = read("cut letters", "end a off 20", "drop under 22")
         found = unlike_tokens(one, two)

@@ -5,7 +5,7 @@ from wordquarry.cutrules import CutRule
 from wordquarry.errors import BadWord
 from wordquarry.machines import Machine
 from wordquarry.runforms import RunForms
-from wordquarry.runpairs import RunPair
+from wordquarry.runpairs import FewRests, RunPair
 from wordquarry.searches import first_text
 from wordquarry.signs import WORD_LENGTH, is_word, row_signs
 from wordquarry.signsorts import telling_signs
@@ -76,9 +76,13 @@ def settled_word(analyzer):
     words = machine_of_words(rule)
     plain = CutRule([["cut", "all"]])
     runs = RunPair(RunForms(rule), RunForms(plain))
+    few = FewRests()
 
     def step(state, sign):
-        return words.after(state[0], sign), further(state[1], sign)
+        read = words.after(state[0], sign)
+        run = further(state[1], sign)
+        is_needed = run == BROKEN or few.is_needed((read, run[0], run[1], run[2]), run[3])
+        return (read, run) if is_needed else None
 
     def further(run, sign):
         if run == BROKEN or sign not in rule.images:

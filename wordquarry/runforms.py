@@ -21,8 +21,6 @@ class RunForms:
         # longer words are dropped, kept and cut as words of this length are
         self._enough = 0
         self.outputs = self._told_outputs(list(named))
-        self.most_cut = max([len(cut) for cut, _ in self.outputs])
-        self.most_put = max([len(put) for _, put in self.outputs])
         self.constants = constants_of(rule.steps)
         self._grown = {}
         self._outcomes = {}
@@ -71,10 +69,6 @@ class RunForms:
                 if word.endswith(put):
                     add_beginnings(word[:len(word) - len(put)] + cut, self._named)
 
-    def is_named(self, form):
-        """Whether a named word may still come of a form: it is the word itself then."""
-        return form in self._named
-
     def named_forms(self):
         return list(self._named)
 
@@ -100,12 +94,6 @@ class RunForms:
         if form not in self._outcomes:
             self._outcomes[form] = words_after(self.rule.steps, form)
         return self._outcomes[form]
-
-    def is_spent(self, form):
-        """Whether no words come of a run, however it goes on."""
-        if not form.startswith(FILLER) or len(form) < self._enough:
-            return False
-        return len(self.outcome(form)[0]) == 0
 
 
 def add_beginnings(word, beginnings):

@@ -7,7 +7,7 @@ newline and any word make a shorter text with unlike tokens than what comes."""
 
 from wordquarry.errors import TooMany
 from wordquarry.runforms import RunForms
-from wordquarry.runpairs import RunPair
+from wordquarry.runpairs import FewRests, RunPair
 
 FAR = 3
 STATES = 20000
@@ -22,10 +22,12 @@ class TextPair:
         self.one = RunForms(one)
         self.two = RunForms(two)
         self.pair = RunPair(self.one, self.two)
+        self._few = FewRests()
         self._forms = {}
 
     def step(self, state, sign):
-        """The state behind one more sign."""
+        """The state behind one more sign, None if it does not matter. States are to come up in the
+        order of their first texts."""
         kinds, left, right, rests, more = state
         left_in = sign in self.one.rule.images
         right_in = sign in self.two.rule.images
@@ -46,6 +48,8 @@ class TextPair:
             right = run_grown(self.two, right, sign) if right_in else None
             rests = None
         self._count(left, right)
+        if not self._few.is_needed((next_kinds, left, right, rests is None, more), rests):
+            return None
         return next_kinds, left, right, rests, more
 
     def _both_grown(self, left, right, rests, sign):
