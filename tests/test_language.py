@@ -192,6 +192,15 @@ class Names(unittest.TestCase):
                     if isinstance(node, ast.FunctionDef) and node is not function:
                         self.assertNotIn(node.name, tops, (name, node.lineno))
 
+    def test_methods_are_called_where_they_stand(self):
+        methods = own_methods() | METHODS
+        for name, tree in TREES.items():
+            called = {node.func for node in ast.walk(tree) if isinstance(node, ast.Call)}
+            for node in ast.walk(tree):
+                if isinstance(node, ast.Attribute) and isinstance(node.ctx, ast.Load) \
+                        and node.attr in methods:
+                    self.assertIn(node, called, (name, node.lineno))
+
     def test_methods_and_attributes(self):
         methods = own_methods()
         told = {node.attr for _, node in walk(ast.Attribute) if isinstance(node.ctx, ast.Store)}

@@ -24,7 +24,8 @@ def unlike_tokens(one, other):
         return None
     pair = TextPair(one.rule, other.rule)
     signs = telling_signs([one.rule, other.rule], [])
-    return first_text(FIRST, pair.step, pair.is_unlike, signs)
+    return first_text(FIRST, lambda state, sign: pair.step(state, sign),
+                      lambda state: pair.is_unlike(state), signs)
 
 
 def shortest_text(analyzer, word):

@@ -175,7 +175,7 @@ def machine_of_lots(firsts, steps, is_good, named, limit):
         rows.append(row)
     good = {number: True for number in range(len(values)) if is_good(values[number])}
     return Machine(letters, rows, [at for at in range(len(lots))
-                                   if any([number in good for number in lots[at]])])
+                                   if any([one in good for one in lots[at]])])
 
 
 def lot_of(states, numbers, values):

@@ -184,7 +184,8 @@ def least_row_of(pattern):
     """The first one of the shortest rows that a pattern means, or None."""
     check_pattern(pattern)
     machine = plain_machine(pattern)
-    return first_text(0, machine.after, machine.is_good, row_signs())
+    return first_text(0, lambda state, sign: machine.after(state, sign),
+                      lambda state: machine.is_good(state), row_signs())
 
 
 def unlike_row(one, other):

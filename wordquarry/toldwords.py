@@ -89,7 +89,8 @@ class WordWays:
         many = 0
         while len(found) > many:
             many = len(found)
-            for kind in self._next_kinds(list(found), self._kinds.get("", {})):
+            further = self._next_kinds(list(found), self._kinds.get("", {}))
+            for kind in further:
                 found[kind] = True
         return tuple(sorted(found))
 
@@ -129,7 +130,8 @@ def machine_of_words(rule):
     letters = ways.letters()
     firsts = list({letters[sign]: True for sign in letters})
     ways.check_forms(firsts)
-    told = machine_of_lots(ways.firsts(), ways.behind, ways.is_end, firsts, None)
+    told = machine_of_lots(ways.firsts(), lambda state, sign: ways.behind(state, sign),
+                           lambda state: ways.is_end(state), firsts, None)
     rows = [[told.after(state, letters[sign]) for sign in letters] + [told.after(state, None)]
             for state in range(told.states)]
     return Machine(list(letters), rows, told.good)
