@@ -4,19 +4,18 @@
 class NearSteps:
     """The states of second rows, by a first word and a rule.
 
-    A state is the number of kept signs that were read while some are to come; behind them a tuple
-    of the prices of the beginnings of the rest of the word, and one of those at which the second
-    sign of a swap is to come; () if no near row goes on."""
+    A state is the number of kept signs that were read while some are to come; behind them a pair:
+    tuples (place, price) for the beginnings of the rest of the word that are near enough, and such
+    ones ahead of two signs of a swap, the second of which was read; () if no near row goes on."""
 
     def __init__(self, word, rule):
         self._rule = rule
         kept = min(rule.keep, len(word))
         self._kept = word[:kept]
         self._rest = word[kept:]
-        self._far = rule.limit + 1
 
     def begun(self):
-        return 0 if len(self._kept) > 0 else self._first_prices()
+        return 0 if len(self._kept) > 0 else self._told({0: 0}, ())
 
     def step(self, state, sign):
         """The state behind one more sign; None stands for one that neither the word nor the rule
@@ -26,43 +25,44 @@ class NearSteps:
         if isinstance(state, int):
             if self._kept[state] != sign:
                 return ()
-            return self._first_prices() if state + 1 == len(self._kept) else state + 1
+            return self._told({0: 0}, ()) if state + 1 == len(self._kept) else state + 1
         prices, swaps = state
-        return self._told(self._next_prices(prices, swaps, sign), self._next_swaps(prices, sign))
+        found = {}
+        for place, price in prices:
+            self._lower(found, place, price, self._rule.put)
+            if place < len(self._rest):
+                change = self._rule.change_price(self._rest[place], sign)
+                self._lower(found, place + 1, price, change)
+        for place, price in swaps:
+            if self._rest[place] == sign:
+                self._lower(found, place + 2, price, 0)
+        return self._told(found, self._next_swaps(prices, sign))
 
     def price(self, state):
         """The price of what was read, None if it is not near."""
-        if state == () or isinstance(state, int) or state[0][-1] == self._far:
+        if state == () or isinstance(state, int) or len(state[0]) == 0:
             return None
-        return state[0][-1]
+        place, price = state[0][-1]
+        return price if place == len(self._rest) else None
 
-    def _told(self, prices, swaps):
-        if min(prices) == self._far and min(swaps, default=self._far) == self._far:
-            return ()
-        return tuple(prices), tuple(swaps)
+    def _lower(self, found, place, price, more):
+        """Notes a price if it is let, is within the limit and is the least one of its place."""
+        if more is not None and price + more <= self._rule.limit:
+            found[place] = min(price + more, found.get(place, price + more))
 
-    def _first_prices(self):
-        prices = [0]
-        for _ in self._rest:
-            prices.append(self._sum(prices[-1], self._rule.drop))
-        return self._told(prices, [self._far] * (len(self._rest) - 1))
-
-    def _sum(self, price, more):
-        """A price and what is added; too much if that is not let."""
-        return self._far if more is None else min(price + more, self._far)
-
-    def _next_prices(self, prices, swaps, sign):
-        found = [self._sum(prices[0], self._rule.put)]
-        for at in range(len(self._rest)):
-            change = self._rule.change_price(self._rest[at], sign)
-            least = min(self._sum(prices[at + 1], self._rule.put), self._sum(prices[at], change),
-                        self._sum(found[at], self._rule.drop))
-            if at > 0 and self._rest[at - 1] == sign:
-                least = min(least, swaps[at - 1])
-            found.append(least)
-        return found
+    def _told(self, found, swaps):
+        """The state of these prices; beginnings are lengthened by signs that are left out."""
+        prices = []
+        for place in range(len(self._rest) + 1):
+            if place in found:
+                prices.append((place, found[place]))
+                self._lower(found, place + 1, found[place], self._rule.drop)
+        return (tuple(prices), swaps) if len(prices) + len(swaps) > 0 else ()
 
     def _next_swaps(self, prices, sign):
-        return [self._sum(prices[at], self._rule.swap)
-                if self._rest[at + 1] == sign and self._rest[at] != sign else self._far
-                for at in range(len(self._rest) - 1)]
+        swaps = []
+        for place, price in prices:
+            if self._rest[place + 1:place + 2] == sign and self._rest[place] != sign:
+                if self._rule.swap is not None and price + self._rule.swap <= self._rule.limit:
+                    swaps.append((place, price + self._rule.swap))
+        return tuple(swaps)
