@@ -37,9 +37,10 @@ def met_table(rows, order):
     """The rows of the met states, each column once; and for each letter the number of its column."""
     places = {order[at]: at for at in range(len(order))}
     told = [rows[state] for state in order]
-    columns = list(zip(*told))
     unlike = {}
-    column_of = [unlike.setdefault(column, len(unlike)) for column in columns]
+    column_of = []
+    for column in list(zip(*told)):
+        column_of.append(unlike.setdefault(column, len(unlike)))
     kept = [[places[state] for state in column] for column in unlike]
     return list(zip(*kept)), column_of
 
