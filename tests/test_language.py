@@ -50,6 +50,10 @@ def own_methods():
             if isinstance(item, ast.FunctionDef)}
 
 
+def own_errors():
+    return {node.name for node in TREES["errors.py"].body if isinstance(node, ast.ClassDef)}
+
+
 def own_functions():
     found = {}
     for _, node in walk(ast.FunctionDef):
@@ -162,7 +166,7 @@ class Names(unittest.TestCase):
             word = getattr(node, "id", getattr(node, "attr", getattr(node, "arg", None)))
             self.assertNotIn(word, BARRED, (name, node.lineno))
             self.assertNotIn(getattr(node, "name", None), BARRED, name)
-            if isinstance(word, str):
+            if isinstance(word, str) and word != "__init__":
                 self.assertFalse(re.match(r"__|_wall|_pe_|_dcw_|_enum_|_cm_|_twin_re_|_lay_|_law_|"
                                           r"_stub_|_sre|_cold|_tuplegetter|_outside|_record|"
                                           r"_written_out|_member_names", word), (name, word))
@@ -223,9 +227,13 @@ class Forms(unittest.TestCase):
     def test_forms_that_are_not_used(self):
         for name, node in walk(ast.AST):
             self.assertNotIsInstance(node, (
-                ast.GeneratorExp, ast.Global, ast.AsyncFunctionDef, ast.Await, ast.Try, ast.With,
+                ast.GeneratorExp, ast.Global, ast.AsyncFunctionDef, ast.Await, ast.With,
                 ast.JoinedStr, ast.Div, ast.MatMult, ast.AnnAssign, ast.Match, ast.NamedExpr),
                 (name, getattr(node, "lineno", 0)))
+            if isinstance(node, ast.Try):
+                self.assertEqual(node.finalbody + node.orelse, [])
+                for handler in node.handlers:
+                    self.assertIn(handler.type.id, own_errors(), name)
             if isinstance(node, ast.FunctionDef):
                 self.assertEqual(node.decorator_list, [])
                 self.assertIsNone(node.returns)

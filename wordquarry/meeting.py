@@ -124,7 +124,7 @@ class NearMeeting:
             self._prices[state, near] = tuple(sorted(found))
         return self._prices[state, near]
 
-    def words(self, price, most):
+    def words_at(self, price, most):
         """The first words with a price, in order, up to most of them."""
         found = []
         ways = [(self._terms.root, self._steps.begun(), "")]
@@ -149,6 +149,6 @@ def nearest(terms, word, rule, many):
     meeting = NearMeeting(terms, NearSteps(word, rule))
     found = []
     for price in range(rule.limit + 1):
-        for one in meeting.words(price, many - len(found)):
+        for one in meeting.words_at(price, many - len(found)):
             found.append((one, price))
     return tuple(found)
