@@ -107,14 +107,14 @@ class Search:
 
     def run(self):
         """Looks at all papers."""
-        for number in self._papers():
+        for number in self._in_turn():
             if not self._look_at(number):
                 self.passed.append(number)
 
     def _bound_of(self, index, number):
         return self._bounds[index][self._parts[index].source.block_of(number)]
 
-    def _papers(self):
+    def _in_turn(self):
         """The numbers of all papers, in the order of the rule."""
         numbers = list(self._indices)
         if self._rule.order == "ascending":
