@@ -230,6 +230,8 @@ class Forms(unittest.TestCase):
                 ast.GeneratorExp, ast.Global, ast.AsyncFunctionDef, ast.Await, ast.With,
                 ast.JoinedStr, ast.Div, ast.MatMult, ast.AnnAssign, ast.Match, ast.NamedExpr),
                 (name, getattr(node, "lineno", 0)))
+            if isinstance(node, ast.Expr):
+                self.assertIsInstance(node.value, (ast.Call, ast.Constant, ast.Yield), name)
             if isinstance(node, ast.Try):
                 self.assertEqual(node.finalbody + node.orelse, [])
                 for handler in node.handlers:

@@ -352,19 +352,22 @@ class Judged(unittest.TestCase):
             self.check(pick, Rule(text))
 
     def test_many_parts(self):
-        for order, relation, most in (("ascending", "<=", 60), ("ascending", "<", 60), ("by bounds", "behind", 60),
-                                      ("descending", "<=", 59), ("by bounds", "<=", 59)):
+        for order, relation, even in (("ascending", "<=", 0), ("ascending", "<", 0), ("by bounds", "behind", 0),
+                                      ("descending", "<=", 1), ("by bounds", "<=", 1)):
             for line in ("ahead: blocks", "between: seen + blocks"):
                 head = "papers " + order + "\n" + line
-                miss = missed(Rule(head + " + {} - parts {} least".format(most - (relation == "<=" and most == 59) * 0, relation))) \
-                    if most == 59 else missed(Rule(head + " + 59 - parts {} least".format(relation)))
-                self.assertEqual(miss.many, most if most == 59 else 60)
-                with self.assertRaises(TooMany) as held:
-                    missed(Rule(head + " + {} - parts {} least".format(61 if most == 59 else 60, relation)))
-                self.assertEqual((held.exception.what, held.exception.many, held.exception.limit), ("parts", 61, 60))
-                with self.assertRaises(TooMany) as held:
-                    missed(Rule(head + " + 1000000 - 1/1000000 * parts {} least".format(relation)))
-                self.assertEqual(held.exception.many, 10 ** 12 + (most == 60))
+                for rest, many in ((59, 60 - even), (60, 61 - even), (61, 62 - even)):
+                    rule = Rule(head + " + {} - parts {} least".format(rest, relation))
+                    if many <= 60:
+                        self.assertEqual(self.check(random.Random(6), rule).many, many)
+                    else:
+                        self.too_many(rule, many)
+                self.too_many(Rule(head + " + 1000000 - 1/1000000 * parts {} least".format(relation)), 10 ** 12 + 1 - even)
+
+    def too_many(self, rule, many):
+        with self.assertRaises(TooMany) as held:
+            missed(rule)
+        self.assertEqual((held.exception.what, held.exception.many, held.exception.limit), ("parts", many, 60))
 
     def test_known_ones(self):
         for text, wanted in (
