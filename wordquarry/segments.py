@@ -81,8 +81,8 @@ def places_of_words(tokens):
     """The pairs of each word and its places, ascending, each once."""
     found = {}
     for token in tokens:
-        found.setdefault(token[0], {})[token[1]] = True
-    return [(word, tuple(sorted(found[word]))) for word in found]
+        found.setdefault(token[0], []).append(token[1])
+    return [(word, tuple(sorted(set(found[word])))) for word in found]
 
 
 def book_of_rows(rows, lengths):
