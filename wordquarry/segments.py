@@ -194,7 +194,8 @@ def merged_book(books, places):
             if number in numbers:
                 lengths[numbers[number]] = book.lengths[number]
     rows = {}
-    for word, outputs in joined([book.terms for book in books]):
+    maps = [book.terms for book in books]
+    for word, outputs in joined(maps):
         for at in range(len(books)):
             if outputs[at] is not None:
                 for number, row in books[at].lists[outputs[at]].rows:
