@@ -149,6 +149,100 @@ class Forms(unittest.TestCase):
             self.assertEqual(held.exception.what, "field")
 
 
+class Drawn:
+    """Draws texts of queries together with the queries that they stand for."""
+
+    def __init__(self, pick):
+        self.pick = pick
+
+    def blanks(self, least=0):
+        return "".join(self.pick.choice(" \n") for _ in range(self.pick.choice((least, least, least + 1, least + 2))))
+
+    def share(self, least, most):
+        top, bottom = self.pick.randint(least, most), self.pick.choice((1, 1, 2, 3))
+        told = str(top) if bottom == 1 and self.pick.random() < 0.7 else "{}/{}".format(top, bottom)
+        return told, Share(top, bottom)
+
+    def query(self, field, depth):
+        """Rows; most of them, and most parts, stand alone."""
+        rows = [self.row(field, depth) for _ in range(self.pick.choice((1, 1, 2, 3)) if depth else 1)]
+        text = (self.blanks() + "|" + self.blanks()).join(text for text, _ in rows)
+        return text, rows[0][1] if len(rows) == 1 else Some([query for _, query in rows], 1)
+
+    def row(self, field, depth):
+        parts = [self.part(field, depth) for _ in range(self.pick.choice((1, 1, 2, 3)) if depth else 1)]
+        text = parts[0][0]
+        for told, _ in parts[1:]:
+            text += self.blanks(1) + told
+        return text, parts[0][1] if len(parts) == 1 else Both([query for _, query in parts])
+
+    def part(self, field, depth):
+        kind = self.pick.randrange(6)
+        if kind == 0:
+            text, query = self.part(field, depth)
+            return "-" + text, Without(query)
+        if kind == 1:
+            told, share = self.share(0, 9)
+            text, query = self.part(field, depth)
+            return "[" + told + "]" + text, Flat(query, share)
+        text, query = self.core(field, depth)
+        for _ in range(self.pick.choice((0, 0, 1, 2))):
+            told, share = self.share(1, 9)
+            text, query = text + "^" + told, Weighed(query, share)
+        return text, query
+
+    def core(self, field, depth):
+        kind = self.pick.randrange(13 if depth else 8)
+        if kind == 0:
+            name = self.pick.choice(("a", "all", "of", "title", "abcdefghijkl"))
+            text, query = self.core(name, depth)
+            return name + ":" + text, query
+        word = self.pick.choice(("all", "2of", "a", "_-+", "9./'#&$@;\\`+-?", "A", "of", "x" * 40))
+        quoted = self.pick.choice(("", "a b", 'a"b', "\n|", '"', "}{(", ")^2"))
+        slop = self.pick.randint(0, 6)
+        leaves = ((word, Phrase(field, word)), ("=" + word, Exact(field, word)), ("*", Every()), ("!", Never()),
+                  ("{'a'*|'b'}", Matching(field, pattern_of("'a'*|'b'"))),
+                  ('"' + quoted.replace('"', '""') + '"', Phrase(field, quoted)),
+                  ('"' + quoted.replace('"', '""') + '"~' + str(slop), Phrase(field, quoted, slop)))
+        if kind < 8:
+            return leaves[kind - 1]
+        many = 1 if kind == 8 else self.pick.randint(1, 3)
+        below = [self.query(field, depth - 1) for _ in range(many)]
+        text = (self.blanks() + "," + self.blanks()).join(told for told, _ in below)
+        text, queries = self.blanks() + text + self.blanks(), [query for _, query in below]
+        if kind == 8:
+            return "(" + text + ")", queries[0]
+        if kind == 9:
+            return "all(" + text + ")", Both(queries)
+        if kind == 10:
+            least = self.pick.randint(1, many)
+            return str(least) + "of(" + text + ")", Some(queries, least)
+        if kind == 11:
+            return "<" + text + ">", Best(queries)
+        told, share = self.pick.choice((("0", 0), ("1", 1), ("2/4", Share(1, 2)), ("5/7", Share(5, 7))))
+        return "<" + text + ">+" + told, Best(queries, share)
+
+
+class DrawnForms(unittest.TestCase):
+
+    def test_all_forms(self):
+        pick = random.Random(7)
+        drawn = Drawn(pick)
+        met = 0
+        for _ in range(1500):
+            field = pick.choice(("body", "f"))
+            text, query = drawn.query(field, pick.randint(0, 3))
+            text = drawn.blanks() + text + drawn.blanks()
+            if query.size > 120 or query.depth > 12:
+                continue
+            met += 1
+            self.assertEqual(read_query(text, field).told, query.told, text)
+            self.assertEqual(read_query(text, field), query)
+            cut = text[:pick.randrange(len(text) + 1)]
+            self.assertTrue(is_beginning(cut), (text, cut))
+        self.assertGreater(met, 1000)
+
+
 class GoingOn(unittest.TestCase):
 
     def shortest(self, text, most):
