@@ -181,8 +181,10 @@ def merged(segments, kept):
     for segment, numbers in zip(segments, kept):
         places.append({numbers[at]: len(papers) + at for at in range(len(numbers))})
         papers.extend([segment.paper(number) for number in numbers])
-    return Segment(papers, {field: merged_book([segment.book_of(field) for segment in segments],
-                                               places) for field in segments[0].fields})
+    books = {}
+    for field in segments[0].fields:
+        books[field] = merged_book([one.book_of(field) for one in segments], places)
+    return Segment(papers, books)
 
 
 def merged_book(books, places):
