@@ -4,6 +4,7 @@ import itertools
 import random
 import unittest
 
+from wordquarry.bytesrows import Writer
 from wordquarry.cursors import Cursor
 from wordquarry.errors import BadBytes, BadLength, BadNumber, BadRows, NoBlock, NoPlace, TooMany
 from wordquarry.joins import all_of, any_of, at_least, barred, numbers_left
@@ -137,6 +138,33 @@ class Lists(unittest.TestCase):
         self.assertEqual(postinglist_of(book.told), book)
         long = PostingList([(5, tuple(range(1000)))], {5: 2 ** 20})
         self.assertEqual(postinglist_of(long.told), long)
+
+    def test_told_numbers_that_are_too_great(self):
+        def told(numbers):
+            writer = Writer()
+            for number in numbers:
+                writer.whole(number)
+            return writer.all_bytes()
+
+        head = (0, 8, 0, 0, 8)
+        for numbers, is_right in (
+                ((1, 2 ** 24 - 1, 2 ** 20 - 1, 0, 2 ** 20 - 1), True), ((1, 2 ** 24, 0, 0, 0), False),
+                ((1, 0, 2 ** 20, 0, 0), False), ((1, 0, 0, 0, 2 ** 20), False), ((1, 0, 0, 1, 5, 2 ** 20 - 7), True),
+                ((1, 0, 0, 1, 5, 2 ** 20 - 6), False), ((1, 0, 0, 1000) + (0,) * 1001, False), ((1, 0, 0, 999) + (0,) * 1000, True),
+                ((2, 5, 0, 0, 0, 2 ** 24 - 7, 0, 0, 0), True), ((2, 5, 0, 0, 0, 2 ** 24 - 6, 0, 0, 0), False),
+                ((5001,) + (0, 0, 0, 0) * 5001, False), ((5000,) + (0, 0, 0, 0) * 5000, True), ((0,), True), ((0, 0), False)):
+            row = head + told(numbers)
+            if is_right:
+                self.assertEqual(postinglist_of(row).told, row)
+            else:
+                with self.assertRaises(BadBytes):
+                    postinglist_of(row)
+        for wrong in ((2, 8, 0, 0, 8), (0, 0, 0, 0, 8), (0, 17, 0, 0, 8), (0, 8, 5, 1, 8), (0, 8, 1, 25, 8), (0, 8, 0, 1, 8),
+                      (0, 8, 1, 0, 8), (0, 8, 0, 0, 65)):
+            with self.assertRaises(BadBytes):
+                postinglist_of(wrong + (0,))
+        for right in ((1, 16, 4, 24, 64), (0, 1, 1, 1, 0)):
+            self.assertEqual(postinglist_of(right + (0,)).told, right + (0,))
 
     def check_wrong_rows(self, pick, row):
         for at in range(len(row)):

@@ -90,6 +90,10 @@ class Forms(unittest.TestCase):
             self.assertTrue(is_beginning(text))
         self.assertEqual(place("(" * 20 + "a b:c"), (1, 24))
         self.assertEqual(place("-" * 10 + "ab:" * 10 + "a:"), (1, 42))
+        for text in ("a:b:c ", "-a ", "[1]a^2 ", "<a>+1 ", "(-a:(b)) ", "all(-a, b) ", "2of(-a:b | c)^2 "):
+            self.assertEqual(place(text + "(" * 21), (1, len(text) + 21))
+            self.assertEqual(place(text + "(" * 20), (1, len(text) + 21))
+            self.assertEqual(place(text + "-" * 21), (1, len(text) + 21))
         self.assertIsNone(place("(" * 20 + "a " + "b" + ")" * 20))
 
     def test_wrong_places(self):

@@ -82,7 +82,7 @@ class Texts(unittest.TestCase):
                 ("ratio times 0 over 1", "ratio times 0 over 1"), ("steps times count over long", "steps times count over long"),
                 ("(papers + 1 over having) times count over count + long + 1", "(papers + 1 over having) times count over count + long + 1"),
                 ("(2 - having + 3*papers over having + having) times count - 1/2 over 1", "(3*papers - having + 2 over 2*having) times count - 1/2 over 1"),
-                ("-1 + count over 1", "count - 1 over 1"), ("-3/6 + count over long - 0", "count - 1/2 over long"),
+                ("3/1*count + 0/5 over 1/1", "3*count over 1"), ("-1 + count over 1", "count - 1 over 1"), ("-3/6 + count over long - 0", "count - 1/2 over long"),
                 ("(0 over 1) times -count - 2*long - 3 over 1", "(0 over 1) times -count - 2*long - 3 over 1"),
                 ("(0 over 1) times -1/2*count over 1", "(0 over 1) times -1/2*count over 1")):
             self.assertEqual(Scoring(text).told, told)
@@ -260,6 +260,8 @@ class Rankings(unittest.TestCase):
                 ("(papers - 1 over 1) times count over 1", "count over 1", True),
                 ("(papers - having over 3) times count over 1", "(5*papers - 5*having over having) times count over 1", True),
                 ("(papers - having over 3) times 1 over 1", "1 over 2", True),
+                ("count over long", "(papers - having over 1) times count over 1", False),
+                ("(papers - having over 1) times count over 1", "count over long", False),
                 ("count + 999999999 over long + 999999999", "count + 999999999 over long + 999999998", False),
                 ("count - 1 over long", "2*count - 2 over 3*long", True), ("long over 1", "long + 5 over 7", True)):
             apart = ranked_apart(Scoring(one), Scoring(two))

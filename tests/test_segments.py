@@ -203,6 +203,7 @@ class Lists(unittest.TestCase):
         self.assertEqual(segment_files(12), ("s12.lengths", "s12.papers", "s12.postings", "s12.words"))
         self.assertEqual(marks_file(12, 3), "d12.3")
         self.assertEqual(all_files([(2, 0), (10, 4)]), ("d10.4",) + segment_files(10) + segment_files(2))
+        self.assertEqual(all_files([[7, 1]]), ("d7.1",) + segment_files(7))
         self.assertEqual(all_files(()), ())
 
 
