@@ -233,7 +233,7 @@ class Rules(unittest.TestCase):
 
     def test_forms(self):
         for text in ("papers ascending\nahead: 1000000/1000000 * blocks <= least", "papers by bounds\nbetween: 1 < least",
-                     "papers ascending\nahead: 1 + 2 - 3/4 + 5 + 6 behind least",
+                     "papers ascending\nahead: 1 + 2 - 3/4 + 5/1 + 6 behind least",
                      "papers ascending\nbetween: seen + 2 * blocks - lists + 3/2 * parts - 1000000 < least"):
             self.assertEqual(Rule(text).text, text)
 

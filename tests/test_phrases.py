@@ -80,6 +80,7 @@ class Phrases(unittest.TestCase):
         for groups, offsets, slop, what, number in (
                 (((0,),) * 9, None, -1, None, 9), (((0,), (7,)), None, -1, "groups", 7),
                 (((0,), (1, -1)), None, -1, "groups", -1), (((0,), (True,)), None, -1, "groups", True),
+                (((0,), (2,)), None, -1, "groups", 2), (((0,),), (1,), -1, "offsets", (1,)),
                 (((0,), ("0", 9)), None, -1, "groups", "0"), (((0,), (1,)), None, -1, "offsets", None),
                 (((0,), (1,)), (0,), -1, "offsets", (0,)), (((0,), (1,)), (0, 0), -1, "offsets", (0, 0)),
                 (((0,), (1,)), (1, 2), -1, "offsets", (1, 2)), (((0,), (1,)), (0, True), -1, "offsets", (0, True)),
