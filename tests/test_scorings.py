@@ -99,7 +99,7 @@ class Texts(unittest.TestCase):
         for text, column in (
                 ("", 1), ("count", 6), ("count over", 11), ("count over ", 12), ("count over 1 ", 14), ("count ov 1", 9), (" count over 1", 1),
                 ("Count", 1), ("count  over 1", 7), ("- count over 1", 2), ("--count over 1", 2), ("+count", 1), ("count - -1 over 1", 9),
-                ("01 over 1", 2), ("1234567890 over 1", 10), ("1/0 over 1", 3), ("1/ over", 3), ("1/1234567890 over", 12), ("1/2/3", 4),
+                ("01 over 1", 2), ("1234567890 over 1", 10), ("1000000000 over 1", 10), ("1/1000000000 over 1", 12), ("1/0 over 1", 3), ("1/ over", 3), ("1/1234567890 over", 12), ("1/2/3", 4),
                 ("1*2 over", 3), ("1 * count", 3), ("count*2 over 1", 6), ("1*papers", 3), ("papers over 1", 1), ("ratio count", 7),
                 ("ratio times", 12), ("ratio time ", 11), ("rat", 4), ("ratios", 6), ("steps times ratio times 1 over 1", 13), ("s", 2),
                 ("(papers) times", 8), ("(papers over having", 20), ("(papers over having times", 21), ("(papers over having)", 21),
