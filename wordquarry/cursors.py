@@ -32,7 +32,7 @@ class Cursor:
         self.number, self.places = book.rows[index]
         self.long = book.lengths[self.number]
         block = self._block
-        if block < 0 or index >= book.blocks[block].begin + book.blocks[block].many:
+        if block < 0 or index >= book.blocks[block].start + book.blocks[block].many:
             block = book.block_of(self.number)
             self._block = block
             self.looked = self.looked + (block,)

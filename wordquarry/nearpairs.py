@@ -113,10 +113,10 @@ def put_and_drop_costs(rule, prices, found, lead):
     # the last sign of the first row one less; the shorter row has had its sign in this step
     put_from = prices if lead < 0 else found
     drop_from = prices if lead > 0 else found
-    if rule.put is not None and lead + 1 in put_from:
-        costs.append(put_from[lead + 1] + rule.put)
-    if rule.drop is not None and lead - 1 in drop_from:
-        costs.append(drop_from[lead - 1] + rule.drop)
+    if rule.put_cost is not None and lead + 1 in put_from:
+        costs.append(put_from[lead + 1] + rule.put_cost)
+    if rule.drop_cost is not None and lead - 1 in drop_from:
+        costs.append(drop_from[lead - 1] + rule.drop_cost)
     return costs
 
 

@@ -10,8 +10,8 @@ class NearRule:
     def __init__(self, text):
         reader = read_rule(text)
         self.text = text
-        self.put = reader.prices.get("put")
-        self.drop = reader.prices.get("drop")
+        self.put_cost = reader.prices.get("put")
+        self.drop_cost = reader.prices.get("drop")
         self.change = reader.prices.get("change")
         self.swap = reader.prices.get("swap")
         self.own_prices = reader.own_prices
@@ -54,8 +54,8 @@ class NearRule:
 
     def _drop_or_change(self, further, price, sign, other, place):
         """Lowers the prices that are had by a dropped, changed or kept sign."""
-        if self.drop is not None:
-            self._lower(further, place, price + self.drop)
+        if self.drop_cost is not None:
+            self._lower(further, place, price + self.drop_cost)
         if place < len(other):
             change = self.change_price(sign, other[place])
             if change is not None:
@@ -63,15 +63,15 @@ class NearRule:
 
     def _with_puts(self, prices, length):
         """The prices when signs may be put in, too."""
-        if self.put is None:
+        if self.put_cost is None:
             return prices
         found = dict(prices)
         for place in sorted(prices):
-            price = found[place] + self.put
+            price = found[place] + self.put_cost
             while place < length and price <= self.limit and price < found.get(place + 1, price + 1):
                 place += 1
                 found[place] = price
-                price += self.put
+                price += self.put_cost
         return found
 
     def _lower(self, prices, place, price):
@@ -81,7 +81,7 @@ class NearRule:
     def turned(self):
         """The rule that says near of (v, u) where this one says it of (u, v), without keep."""
         lines = []
-        for head, price in (("put", self.drop), ("drop", self.put), ("change", self.change),
+        for head, price in (("put", self.drop_cost), ("drop", self.put_cost), ("change", self.change),
                             ("swap", self.swap)):
             if price is not None:
                 lines.append(head + " " + str(price))

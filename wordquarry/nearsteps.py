@@ -29,7 +29,7 @@ class NearSteps:
         prices, swaps = state
         found = {}
         for place, price in prices:
-            self._lower(found, place, price, self._rule.put)
+            self._lower(found, place, price, self._rule.put_cost)
             if place < len(self._rest):
                 change = self._rule.change_price(self._rest[place], sign)
                 self._lower(found, place + 1, price, change)
@@ -56,7 +56,7 @@ class NearSteps:
         for place in range(len(self._rest) + 1):
             if place in found:
                 prices.append((place, found[place]))
-                self._lower(found, place + 1, found[place], self._rule.drop)
+                self._lower(found, place + 1, found[place], self._rule.drop_cost)
         return (tuple(prices), swaps) if len(prices) + len(swaps) > 0 else ()
 
     def _next_swaps(self, prices, sign):

@@ -24,7 +24,7 @@ class Part:
     def _bound_of(self, block):
         """The greatest score in a block: the best pairs tell it without the rows."""
         if self._scores is not None:
-            return greatest_share(self._scores[block.begin:block.begin + block.many])
+            return greatest_share(self._scores[block.start:block.start + block.many])
         function = self._function
         return greatest_share([function(count, length) for count, length in block.pairs])
 

@@ -15,13 +15,13 @@ LAYOUT_BOUNDS = ((0, 1), (1, 16), (0, 4), (0, 24), (0, 64))
 
 
 class Block:
-    """Some neighbouring rows of a list, packed together; begin is the index of the first one."""
+    """Some neighbouring rows of a list, packed together; start is the index of the first one."""
 
-    def __init__(self, rows, begin, told, pairs):
+    def __init__(self, rows, start, told, pairs):
         self.first = rows[0][0]
         self.last = rows[-1][0]
         self.many = len(rows)
-        self.begin = begin
+        self.start = start
         self.weight, self.exceptions, self.width = told
         self.pairs = pairs
 
@@ -77,7 +77,7 @@ class PostingList:
         """The rows of a block."""
         if not is_integer(index) or not 0 <= index < len(self.blocks):
             raise NoBlock(index)
-        begin = self.blocks[index].begin
+        begin = self.blocks[index].start
         return self.rows[begin:begin + self.blocks[index].many]
 
 

@@ -36,7 +36,7 @@ class Phrase(Query):
         if not is_integer(slop) or not 0 <= slop <= MOST_SLOP:
             raise BadNumber("slop", slop)
         told = field + ":" + quoted(words)
-        Query.__init__(self, told if slop == 0 else told + "~" + str(slop))
+        super().__init__(told if slop == 0 else told + "~" + str(slop))
         self.field = field
         self.words = words
         self.slop = slop
@@ -53,7 +53,7 @@ class Exact(Query):
         check_field(field)
         if not is_word(word):
             raise BadWord("word")
-        Query.__init__(self, field + ":=" + quoted(word))
+        super().__init__(field + ":=" + quoted(word))
         self.field = field
         self.word = word
         self.fields = (field,)
@@ -69,7 +69,7 @@ class Matching(Query):
         check_field(field)
         if not isinstance(pattern, Pattern):
             raise BadWord("pattern")
-        Query.__init__(self, field + ":{" + pattern.text + "}")
+        super().__init__(field + ":{" + pattern.text + "}")
         self.field = field
         self.pattern = pattern
         self.fields = (field,)
@@ -82,7 +82,7 @@ class Every(Query):
     """Holds always."""
 
     def __init__(self):
-        Query.__init__(self, "*")
+        super().__init__("*")
 
     def __eq__(self, other):
         return isinstance(other, Every)
@@ -92,7 +92,7 @@ class Never(Query):
     """Holds never."""
 
     def __init__(self):
-        Query.__init__(self, "!")
+        super().__init__("!")
 
     def __eq__(self, other):
         return isinstance(other, Never)
@@ -107,7 +107,7 @@ class Both(Query):
             told = "all(" + self.queries[0].told + ")"
         else:
             told = " ".join([told_where(query, PART) for query in self.queries])
-        Query.__init__(self, told, self.queries)
+        super().__init__(told, self.queries)
 
     def __eq__(self, other):
         return isinstance(other, Both) and self.told == other.told
@@ -124,7 +124,7 @@ class Some(Query):
             told = " | ".join([told_where(query, ROW) for query in self.queries])
         else:
             told = str(least) + "of(" + ", ".join([query.told for query in self.queries]) + ")"
-        Query.__init__(self, told, self.queries)
+        super().__init__(told, self.queries)
         self.least = least
 
     def __eq__(self, other):
@@ -142,7 +142,7 @@ class Best(Query):
         told = "<" + ", ".join([query.told for query in self.queries]) + ">"
         if self.rest.top != 0:
             told = told + "+" + self.rest.written()
-        Query.__init__(self, told, self.queries)
+        super().__init__(told, self.queries)
 
     def __eq__(self, other):
         return isinstance(other, Best) and self.told == other.told
@@ -153,7 +153,7 @@ class Without(Query):
 
     def __init__(self, query):
         check_query(query)
-        Query.__init__(self, "-" + told_where(query, PART), (query,))
+        super().__init__("-" + told_where(query, PART), (query,))
         self.query = query
 
     def __eq__(self, other):
@@ -168,7 +168,7 @@ class Weighed(Query):
         self.weight = checked_share(weight, "weight")
         if self.weight.at_most(0):
             raise BadNumber("weight", weight)
-        Query.__init__(self, told_where(query, CORE) + "^" + self.weight.written(), (query,))
+        super().__init__(told_where(query, CORE) + "^" + self.weight.written(), (query,))
         self.query = query
 
     def __eq__(self, other):
@@ -184,7 +184,7 @@ class Flat(Query):
         if self.weight.under(0):
             raise BadNumber("weight", weight)
         told = "[" + self.weight.written() + "]" + told_where(query, PART)
-        Query.__init__(self, told, (query,))
+        super().__init__(told, (query,))
         self.query = query
 
     def __eq__(self, other):
