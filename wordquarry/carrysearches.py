@@ -50,7 +50,7 @@ class DeedSearch:
         while at < len(self._waiting):
             moment = self._waiting[at]
             after = self._applied(self._flushed(moment), 0, None)
-            if self._is_broken(after):
+            if self._breaks(after):
                 return self._deeds_to(moment) + (("view",),)
             self._go_on(moment, ("view",), self._forgotten(after))
             self._go_on(moment, ("flush",), self._flushed(moment))
@@ -73,7 +73,7 @@ class DeedSearch:
             deeds.append(deed)
         return tuple(deeds[::-1])
 
-    def _is_broken(self, moment):
+    def _breaks(self, moment):
         """Whether a view that tells this breaks the promise."""
         phase, _, paper, _, rows, _ = moment
         lives = LIVING in [kind for _, _, kind in rows]
@@ -153,23 +153,23 @@ class DeedSearch:
         """The beginnings of merges, or the ends of one."""
         rows, merge = moment[4:]
         if len(merge) > 0:
-            return [(("give up",), moment[:5] + ((),)), (("end",), self._ended(moment))]
+            return [(("give up",), moment[:5] + ((),)), (("end",), self._merge_ended(moment))]
         ways = []
         for first in range(len(rows)):
             for many in range(1, len(rows) - first + 1):
                 # a twin may be marked: whether it is copied is not followed
                 if rows[first][2] != TWIN or many > 1:
-                    ways.append((("begin", first, many), self._begun(moment, first, many)))
+                    ways.append((("begin", first, many), self._merge_begun(moment, first, many)))
         return ways
 
-    def _begun(self, moment, first, many):
+    def _merge_begun(self, moment, first, many):
         if self._rule.begin_applies:
             moment = self._applied(moment, first, many)
         clock, rows = moment[1], moment[4]
         is_copied = LIVING in [kind for _, _, kind in rows[first:first + many]]
         return moment[:5] + ((first, many, clock, is_copied),)
 
-    def _ended(self, moment):
+    def _merge_ended(self, moment):
         first, many, begun, is_copied = moment[5]
         if self._rule.end_applies:
             moment = self._applied(moment, first, many)
