@@ -61,12 +61,17 @@ class Reader:
         field has in all of them."""
         self.check_field(field)
         having = 0
-        total = 0
         for segment, living, _ in self.segments:
             book = segment.postings_of(field, word)
+            if book is not None:
+                having += len([number for number in living if number in book])
+        return (self.many, having, self.total(field))
+
+    def total(self, field):
+        """How many tokens a field has in all papers."""
+        self.check_field(field)
+        many = 0
+        for segment, living, _ in self.segments:
             lengths = segment.book_of(field).lengths
-            for number in living:
-                total += lengths.get(number, 0)
-                if book is not None and number in book:
-                    having += 1
-        return (self.many, having, total)
+            many += sum([lengths.get(number, 0) for number in living])
+        return many

@@ -12,7 +12,7 @@ FILE_NAME = "f0"
 
 
 class RunSearch:
-    """Goes through a graph by ascending weights; found leads from promises to the labels along the
+    """Goes through a graph by ascending weights; labels leads from promises to those along the
     least way to a place where one is broken."""
 
     def __init__(self, graph):
@@ -20,12 +20,12 @@ class RunSearch:
         self._queue = []
         self._steps = []
         self._settled = {}
-        self.found = {}
+        self.labels = {}
 
     def run(self, wanted):
         """Looks for the promises that are wanted."""
         self._add(0, (FIRST_NODE, None, None))
-        while len(self._queue) > 0 and len(self.found) < len(wanted):
+        while len(self._queue) > 0 and len(self.labels) < len(wanted):
             weight, at = heappop(self._queue)
             node = self._steps[at][0]
             if node in self._settled:
@@ -33,7 +33,7 @@ class RunSearch:
             self._settled[node] = True
             if isinstance(node, str):
                 if node in wanted:
-                    self.found[node] = self._labels_to(at)
+                    self.labels[node] = self._labels_to(at)
                 continue
             for further, more, label in self._graph.ways_from(node):
                 if further not in self._settled:
@@ -67,7 +67,7 @@ def found_in(graph, wanted):
     search = RunSearch(graph)
     if len(wanted) > 0:
         search.run(wanted)
-    return search.found
+    return search.labels
 
 
 class RunMaker:
