@@ -36,6 +36,7 @@ class Style:
         self.text = text
         self.opening = told[0][1]
         self.closing = told[1][1]
+        self.steps_by_sign = [by_first_sign(lot) for lot in steps_of_style(self)]
 
     def __eq__(self, other):
         return isinstance(other, Style) and self.text == other.text
@@ -94,7 +95,7 @@ def readings_many(row, style):
     """How many texts with marked stretches a row may be written of."""
     if not is_text(row):
         raise BadWord("row")
-    steps = [by_first_sign(lot) for lot in steps_of_style(style)]
+    steps = style.steps_by_sign
     ways = [[0, 0, 0] for _ in range(len(row) + 1)]
     ways[0][OUTSIDE] = 1
     for at in range(len(row)):
@@ -120,7 +121,7 @@ def clash(style):
     A state has two readings of one row: (rest, mode, rest, mode, whether they are unlike), a rest
     being what of the last piece is still to come. The rows of one length are gone through in
     their order, each with its lot of states that no row ahead leads to."""
-    steps = [by_first_sign(lot) for lot in steps_of_style(style)]
+    steps = style.steps_by_sign
     signs = telling_signs(style)
     first = ("", OUTSIDE, "", OUTSIDE, False)
     met = {first: True}
