@@ -62,7 +62,7 @@ class CommandReader:
         while self._reader.next_sign() not in ("", " ", "\n", '"'):
             if self._reader.at == begin + WORD_LENGTH:
                 self._reader.fail()
-            self._reader.at += 1
+            self._reader.go_to(self._reader.at + 1)
         return self._read_from(begin)
 
     def _name(self):
@@ -70,7 +70,7 @@ class CommandReader:
         while self._reader.next_sign() != "" and self._reader.next_sign() in SMALL:
             if self._reader.at == begin + NAME_LENGTH:
                 self._reader.fail()
-            self._reader.at += 1
+            self._reader.go_to(self._reader.at + 1)
         return self._read_from(begin)
 
     def _read_from(self, begin):
@@ -98,12 +98,12 @@ class CommandReader:
         while True:
             begin = self._reader.at
             while self._reader.next_sign() not in ("", "\n", '"'):
-                self._reader.at += 1
+                self._reader.go_to(self._reader.at + 1)
             parts.append(self._line[begin:self._reader.at])
             self._reader.one_of(['"'])
             if self._reader.next_sign() != '"':
                 return '"'.join(parts)
-            self._reader.at += 1
+            self._reader.go_to(self._reader.at + 1)
 
     def _query(self):
         """Reads a query, up to the end of the line."""

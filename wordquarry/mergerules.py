@@ -82,14 +82,14 @@ def read_bounded(reader, least, most):
     figures = ""
     while reader.next_sign() != "" and reader.next_sign() in FIGURES:
         figures = figures + reader.next_sign()
-        reader.at += 1
+        reader.go_to(reader.at + 1)
     if figures == "":
         reader.fail()
     if figures[0] != "0" and len(figures) <= MOST_FIGURES:
         number = number_of(figures)
         if number >= least and (most is None or number <= most):
             return number
-    reader.at = begin
+    reader.go_to(begin)
     reader.fail()
 
 

@@ -21,6 +21,10 @@ class TextReader:
         """The next sign, empty at the end."""
         return self._text[self.at:self.at + 1]
 
+    def go_to(self, place):
+        """Goes on, or back, to a place."""
+        self.at = place
+
     def fail(self):
         """The next sign is wrong: the error tells its line and its column."""
         ahead = self._text[:self.at].split("\n")
