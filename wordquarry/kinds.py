@@ -110,10 +110,10 @@ def sure_first(parts, k):
     """The texts that are surely among the first k, and those that may turn out to be."""
     known = []
     for index in range(len(parts)):
-        part = parts[index]
-        if not isinstance(part, (list, tuple)) or len(part) != 2 or not are_first_rows(part[0]):
+        told = parts[index]
+        if not isinstance(told, (list, tuple)) or len(told) != 2 or not are_first_rows(told[0]):
             raise BadRows(index)
-        known.append(KnownRows(list(part[0]), bool(part[1])))
+        known.append(KnownRows(list(told[0]), bool(told[1])))
     if not is_integer(k) or k < 1:
         raise BadNumber("k", k)
     texts = sorted({text for part in known for text in part.many})

@@ -5,6 +5,8 @@ from wordquarry.errors import BadText, TooMany
 MOST_LINES = 16
 LISTS = ("list", "next", "back")
 TAKE = {"take": ()}
+# How many words a line has at most, two if nothing is told here.
+MOST_WORDS = {"rename": 3, "take": 4}
 # For each first word of a line the further words that may follow, but for the names of lists.
 COMMIT_WORDS = {"write": ("new",), "sync": ("new", "names"), "rename": (), "remove": ("dropped",),
                 "tell": ()}
@@ -58,8 +60,7 @@ def words_behind(ahead, heads):
         return list(heads)
     if ahead[0] == "tell":
         return []
-    most = {"rename": 3, "take": 4}.get(ahead[0], 2)
-    if len(ahead) == most:
+    if len(ahead) == MOST_WORDS.get(ahead[0], 2):
         return []
     lists = [name for name in LISTS if name not in ahead]
     return lists + list(heads[ahead[0]])

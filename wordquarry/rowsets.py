@@ -94,9 +94,9 @@ class PhraseWalk:
                          for two in self._lots] for one in self._lots]
         self._steps = 0
         self._kinds = {(): []}
-        for letter in range(letters):
-            kind = tuple([at for at in range(len(lots)) if letter in self._lots[at]])
-            self._kinds.setdefault(kind, []).append(letter)
+        for number in range(letters):
+            lots_with = tuple([at for at in range(len(lots)) if number in self._lots[at]])
+            self._kinds.setdefault(lots_with, []).append(number)
         self._begun = {kind: self._needed_rows(rests_behind(begun, kind), []) for kind in self._kinds}
 
     def made_machine(self):

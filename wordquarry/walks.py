@@ -66,11 +66,11 @@ def phrase_counts(leaf, segment, plan):
     spots = spots_of(leaf, plan)
     lists = []
     indices = {}
-    for _, words in spots:
-        for word in words:
-            book = segment.postings_of(leaf.field, word)
-            if book is not None and word not in indices:
-                indices[word] = len(lists)
+    for _, lot in spots:
+        for one in lot:
+            book = segment.postings_of(leaf.field, one)
+            if book is not None and one not in indices:
+                indices[one] = len(lists)
                 lists.append(book)
     groups = [tuple([indices[word] for word in words if word in indices]) for _, words in spots]
     rows = near_rows(lists, groups, [offset for offset, _ in spots], leaf.slop)
