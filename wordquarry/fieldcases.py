@@ -1,9 +1,8 @@
 """Cases of queries: which leaves stand together, for all plain rows of each field."""
 
 from wordquarry.errors import NoField, TooMany
-from wordquarry.queries import (Best, Both, Every, Exact, Flat, Matching, Never, Phrase, Some, Weighed,
-                                Without, leaves_of)
 from wordquarry.machines import STATES
+from wordquarry.queries import Exact, Matching, Phrase, holds_by, leaves_of
 from wordquarry.rowsets import leaf_rows, spots_of
 from wordquarry.wordclasses import word_classes
 
@@ -113,15 +112,4 @@ def with_row(paper, field, row):
 
 def is_true(query, standing):
     """Whether a query holds, standing telling which leaves stand."""
-    if isinstance(query, Without):
-        return not is_true(query.query, standing)
-    if isinstance(query, (Weighed, Flat)):
-        return is_true(query.query, standing)
-    if isinstance(query, (Both, Some, Best)):
-        many = len([one for one in query.queries if is_true(one, standing)])
-        if isinstance(query, Both):
-            return many == len(query.queries)
-        return many >= (query.least if isinstance(query, Some) else 1)
-    if isinstance(query, (Every, Never)):
-        return isinstance(query, Every)
-    return standing[query.told]
+    return holds_by(query, lambda leaf: standing[leaf.told])

@@ -1,6 +1,7 @@
 """Pieces of texts: windows in which as many marked stretches lie as may be."""
 
 from wordquarry.errors import BadNumber
+from wordquarry.placings import first_from
 from wordquarry.signs import BLANKS, is_integer
 from wordquarry.stretches import check_marked
 
@@ -16,7 +17,8 @@ def pieces(text, stretches, many, length):
     if not is_integer(length) or not 1 <= length <= LONGEST:
         raise BadNumber("length", length)
     windows = windows_of(chunks_of(text), length)
-    held = [stretches_within(window, stretches) for window in windows]
+    ends = [(end,) for _, end in stretches]
+    held = [stretches_within(window, stretches, ends) for window in windows]
     return best_choice(windows, held, many)
 
 
@@ -53,39 +55,13 @@ def windows_of(chunks, length):
     return windows
 
 
-def stretches_within(window, stretches):
-    """How many marked stretches lie wholly within a window."""
+def stretches_within(window, stretches, ends):
+    """How many marked stretches lie wholly within a window; ends has their ends, each alone."""
     if window is None:
         return 0
-    many = first_ending_behind(stretches, window[1]) - first_beginning_at(stretches, window[0])
+    many = first_from(ends, window[1] + 1) - first_from(stretches, window[0])
     # one that begins ahead of the window and ends behind it would be taken off
     return max(0, many)
-
-
-def first_beginning_at(stretches, start):
-    """The index of the first stretch that does not begin ahead of a place."""
-    low = 0
-    high = len(stretches)
-    while low < high:
-        middle = (low + high) // 2
-        if stretches[middle][0] < start:
-            low = middle + 1
-        else:
-            high = middle
-    return low
-
-
-def first_ending_behind(stretches, end):
-    """The index of the first stretch that ends behind a place."""
-    low = 0
-    high = len(stretches)
-    while low < high:
-        middle = (low + high) // 2
-        if stretches[middle][1] <= end:
-            low = middle + 1
-        else:
-            high = middle
-    return low
 
 
 def best_choice(windows, held, many):

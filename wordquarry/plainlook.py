@@ -3,7 +3,7 @@
 from wordquarry.errors import BadNumber, NoField, TooMany
 from wordquarry.placings import least_cost, tokens_of_placings
 from wordquarry.queries import (Best, Both, Every, Exact, Flat, Matching, Phrase, Some, Weighed,
-                                Without, leaves_of)
+                                Without, holds_by, leaves_of)
 from wordquarry.shares import Share
 from wordquarry.signs import is_integer
 
@@ -104,16 +104,7 @@ class Look:
 
     def finds(self, query):
         """Whether a query holds."""
-        if isinstance(query, Without):
-            return not self.finds(query.query)
-        if isinstance(query, (Weighed, Flat)):
-            return self.finds(query.query)
-        if isinstance(query, (Both, Some, Best)):
-            many = len([one for one in query.queries if self.finds(one)])
-            if isinstance(query, Both):
-                return many == len(query.queries)
-            return many >= (query.least if isinstance(query, Some) else 1)
-        return self.times(query) > 0
+        return holds_by(query, lambda leaf: self.times(leaf) > 0)
 
     def found_by(self, leaf):
         """The indexes of the tokens by which a leaf is found."""
@@ -181,24 +172,30 @@ class Judge:
 
     def score(self, query):
         """The score of a query, None if it does not hold."""
-        if not self._look.finds(query):
-            return None
-        if isinstance(query, (Every, Without)):
-            return Share(0)
-        if isinstance(query, Weighed):
-            return self.score(query.query) * query.weight
-        if isinstance(query, Flat):
-            return query.weight
-        if isinstance(query, (Both, Some, Best)):
-            scores = [self.score(one) for one in query.queries]
-            return joined_score(query, [score for score in scores if score is not None])
-        return self._leaf_score(query)
+        return scored(query, lambda one: self._look.finds(one), lambda leaf: self._leaf_score(leaf))
 
     def _leaf_score(self, leaf):
         having = len([look for look in self._looks if look.times(leaf) > 0])
         total = sum([look.length(leaf.field) for look in self._looks])
         return self._scoring.score(len(self._looks), having, total, self._look.length(leaf.field),
                                    self._look.times(leaf))
+
+
+def scored(query, holds_there, score_leaf):
+    """The score of a query in a paper, None if it does not hold; holds_there(query) tells whether
+    one holds, score_leaf(leaf) the score of a leaf that asks a field."""
+    if not holds_there(query):
+        return None
+    if isinstance(query, (Every, Without)):
+        return Share(0)
+    if isinstance(query, Weighed):
+        return scored(query.query, holds_there, score_leaf) * query.weight
+    if isinstance(query, Flat):
+        return query.weight
+    if isinstance(query, (Both, Some, Best)):
+        scores = [scored(one, holds_there, score_leaf) for one in query.queries]
+        return joined_score(query, [score for score in scores if score is not None])
+    return score_leaf(query)
 
 
 def joined_score(query, scores):

@@ -259,3 +259,19 @@ def leaves_of(query):
             found.append(query)
         waiting.extend(list(below[::-1]))
     return tuple(found)
+
+
+def holds_by(query, stands):
+    """Whether a query holds, if stands(leaf) tells of each leaf that asks a field whether it does."""
+    if isinstance(query, Without):
+        return not holds_by(query.query, stands)
+    if isinstance(query, (Weighed, Flat)):
+        return holds_by(query.query, stands)
+    if isinstance(query, (Both, Some, Best)):
+        many = len([one for one in query.queries if holds_by(one, stands)])
+        if isinstance(query, Both):
+            return many == len(query.queries)
+        return many >= (query.least if isinstance(query, Some) else 1)
+    if isinstance(query, (Every, Never)):
+        return isinstance(query, Every)
+    return stands(query)

@@ -4,10 +4,10 @@ from wordquarry.best import best, check_many, in_order
 from wordquarry.errors import NoField, TooMany
 from wordquarry.joins import numbers_left
 from wordquarry.passing import Part
-from wordquarry.plainlook import joined_score
+from wordquarry.plainlook import scored
 from wordquarry.postings import PostingList
-from wordquarry.queries import (Best, Both, Every, Exact, Flat, Matching, Never, Phrase, Some, Weighed,
-                                Without, leaves_of, queries_in)
+from wordquarry.queries import (Exact, Matching, Phrase, Some, Weighed, holds_by, leaves_of,
+                                queries_in)
 from wordquarry.rankings import falls_by_count, grows_by_length
 from wordquarry.rowsets import MOST_SPOTS, spots_of
 from wordquarry.shares import Share
@@ -154,36 +154,17 @@ class ReaderLook:
                 self._counts[leaf.told] = living_counts(reader, plan, leaf)
                 self._totals[leaf.field] = reader.total(leaf.field)
 
-    def holds(self, query, place):
-        """Whether a query holds in a paper."""
-        if isinstance(query, Without):
-            return not self.holds(query.query, place)
-        if isinstance(query, (Weighed, Flat)):
-            return self.holds(query.query, place)
-        if isinstance(query, (Both, Some, Best)):
-            many = len([one for one in query.queries if self.holds(one, place)])
-            if isinstance(query, Both):
-                return many == len(query.queries)
-            return many >= (query.least if isinstance(query, Some) else 1)
-        if isinstance(query, (Every, Never)):
-            return isinstance(query, Every)
-        return place in self._counts[query.told]
-
     def score(self, query, place):
         """The score of a query in a paper, None if it does not hold."""
-        if not self.holds(query, place):
-            return None
-        if isinstance(query, (Every, Without)):
-            return Share(0)
-        if isinstance(query, Weighed):
-            return self.score(query.query, place) * query.weight
-        if isinstance(query, Flat):
-            return query.weight
-        if isinstance(query, (Both, Some, Best)):
-            scores = [self.score(one, place) for one in query.queries]
-            return joined_score(query, [score for score in scores if score is not None])
-        count = self._counts[query.told][place]
-        return self._leaf_score(query, count, self._reader.length(query.field, place))
+        return scored(query, lambda one: self._holds(one, place),
+                      lambda leaf: self._score_there(leaf, place))
+
+    def _holds(self, query, place):
+        return holds_by(query, lambda leaf: place in self._counts[leaf.told])
+
+    def _score_there(self, leaf, place):
+        count = self._counts[leaf.told][place]
+        return self._leaf_score(leaf, count, self._reader.length(leaf.field, place))
 
     def _leaf_score(self, leaf, count, length):
         having = len(self._counts[leaf.told])

@@ -50,8 +50,8 @@ def leaf_counts(leaf, segment, plan):
     if isinstance(leaf, Exact):
         words = [leaf.word]
     else:
-        words = [word for word, _ in segment.terms_of(leaf.field).pairs_from("")
-                 if leaf.pattern.fits(word)]
+        terms = segment.terms_of(leaf.field)
+        words = [word for word, _ in terms.pairs_from("") if leaf.pattern.fits(word)]
     counts = {}
     for word in words:
         book = segment.postings_of(leaf.field, word)
