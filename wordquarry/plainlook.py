@@ -4,10 +4,9 @@ from wordquarry.errors import BadNumber, NoField, TooMany
 from wordquarry.placings import least_cost, tokens_of_placings
 from wordquarry.queries import (Best, Both, Every, Exact, Flat, Matching, Phrase, Some, Weighed,
                                 Without, holds_by, leaves_of)
+from wordquarry.rowsets import MOST_SPOTS, spots_of
 from wordquarry.shares import Share
 from wordquarry.signs import is_integer
-
-MOST_SPOTS = 8
 
 
 def check_asked(query, plan, papers):
@@ -19,20 +18,16 @@ def check_asked(query, plan, papers):
         for field in sorted(paper):
             if field not in plan.fields:
                 raise NoField(field)
+    check_spots(query, plan)
+
+
+def check_spots(query, plan):
+    """The error of the first Phrase of a query that has too many spots."""
     for leaf in leaves_of(query):
         if isinstance(leaf, Phrase):
-            many = len(spots_of(leaf, plan)[0])
+            many = len(spots_of(leaf, plan))
             if many > MOST_SPOTS:
                 raise TooMany("places", many, MOST_SPOTS)
-
-
-def spots_of(phrase, plan):
-    """The words of each spot of a Phrase, and the offsets of the spots."""
-    words = {}
-    for token in plan.tokens(phrase.field, phrase.words):
-        words.setdefault(token[1], []).append(token[0])
-    places = sorted(words)
-    return [words[place] for place in places], [place - places[0] for place in places]
 
 
 class Look:
@@ -59,12 +54,13 @@ class Look:
 
     def spots(self, phrase):
         """For each spot of a Phrase the tokens (place, index) that it may have, and the offsets."""
-        words, offsets = spots_of(phrase, self._plan)
         tokens = self.tokens_of(phrase.field)
         spots = []
-        for lot in words:
+        offsets = []
+        for offset, words in spots_of(phrase, self._plan):
             spots.append(sorted([(tokens[index][1], index) for index in range(len(tokens))
-                                 if tokens[index][0] in lot]))
+                                 if tokens[index][0] in words]))
+            offsets.append(offset)
         return spots, offsets
 
     def anchors(self, phrase):

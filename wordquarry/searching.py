@@ -1,15 +1,14 @@
 """Searching: queries answered from the papers of a reader."""
 
 from wordquarry.best import best, check_many, in_order
-from wordquarry.errors import NoField, TooMany
+from wordquarry.errors import NoField
 from wordquarry.joins import numbers_left
 from wordquarry.passing import Part
-from wordquarry.plainlook import scored
+from wordquarry.plainlook import check_spots, scored
 from wordquarry.postings import PostingList
 from wordquarry.queries import (Exact, Matching, Phrase, Some, Weighed, holds_by, leaves_of,
                                 queries_in)
 from wordquarry.rankings import falls_by_count, grows_by_length
-from wordquarry.rowsets import MOST_SPOTS, spots_of
 from wordquarry.shares import Share
 from wordquarry.walks import leaf_counts, walked
 
@@ -27,13 +26,6 @@ class Searcher:
             if field not in self._plan.fields:
                 raise NoField(field)
 
-    def _check_spots(self, query):
-        for leaf in leaves_of(query):
-            if isinstance(leaf, Phrase):
-                many = len(spots_of(leaf, self._plan))
-                if many > MOST_SPOTS:
-                    raise TooMany("places", many, MOST_SPOTS)
-
     def _found_places(self, query):
         """The numbers of the papers in which a query holds."""
         places = []
@@ -49,14 +41,14 @@ class Searcher:
     def found(self, query):
         """The keys of the papers in which a query holds."""
         self._check_fields(query)
-        self._check_spots(query)
+        check_spots(query, self._plan)
         return [self._key(place) for place in self._found_places(query)]
 
     def best(self, query, k):
         """The best k pairs (key, score) of these papers."""
         self._check_fields(query)
         check_many(k)
-        self._check_spots(query)
+        check_spots(query, self._plan)
         look = ReaderLook(self._reader, self._plan, self._scoring, query)
         if self._is_passable(query):
             rows = []
@@ -70,7 +62,7 @@ class Searcher:
         """The score of a query in a paper."""
         self._check_fields(query)
         place = self._reader.number_of(key)
-        self._check_spots(query)
+        check_spots(query, self._plan)
         score = ReaderLook(self._reader, self._plan, self._scoring, query).score(query, place)
         return Share(0) if score is None else score
 
@@ -79,7 +71,7 @@ class Searcher:
         queries of which it is made."""
         self._check_fields(query)
         place = self._reader.number_of(key)
-        self._check_spots(query)
+        check_spots(query, self._plan)
         return ReaderLook(self._reader, self._plan, self._scoring, query).reasons(query, place)
 
     def worked_out(self, query, k):
