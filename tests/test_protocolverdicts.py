@@ -67,8 +67,7 @@ def nexts(plain, run, files):
             if part is None or until < len(own) and own[until][0] == "write":
                 yield ("recovery", until, 0, part)
     else:
-        if last is not None:
-            yield from ends_of(plain)
+        yield from ends_of(plain)
         held = len(plain.lists[plain.last][1])
         for new in range(files + 1):
             for dropped in range(min(held, files) + 1):
