@@ -110,7 +110,8 @@ class Verdicts(unittest.TestCase):
         self.assertTrue(all(broken.values()), broken)
 
     def test_against_all_small_runs(self):
-        """All runs by ascending weights: the first one that breaks a promise has the told weight."""
+        """All runs with up to two ends by ascending weights: the first one that breaks a promise has
+        the told weight."""
         pick = random.Random(2)
         met = 0
         for turn in range(14):
@@ -120,24 +121,26 @@ class Verdicts(unittest.TestCase):
             queue = [((0, 0, 0, 0), 0, ())]
             serial = 0
             looked = 0
-            while queue and looked < 500:
+            while queue and looked < 600:
                 weight, _, run = heapq.heappop(queue)
                 plain = played(protocol, run)
                 looked += 1
                 if plain.promise is not None:
                     if plain.promise not in found:
                         found[plain.promise] = weight
-                        self.assertEqual(weights[plain.promise], weight, (run, protocol.commit, protocol.recovery))
-                        met += 1
+                        self.assertLessEqual(weights[plain.promise], weight, (run, protocol.commit, protocol.recovery))
+                        met += weights[plain.promise] == weight
                     continue
                 for event in nexts(plain, run, 2 if len(run) < 2 else 1):
                     further = run + (event,)
                     serial += 1
-                    heapq.heappush(queue, (tuple(played(protocol, further).weight), serial, further))
+                    weight = tuple(played(protocol, further).weight)
+                    if weight[1] <= 2:
+                        heapq.heappush(queue, (weight, serial, further))
             # whatever has less weight than all that is left has been looked at
             for promise in weights:
-                if not queue or weights[promise] < queue[0][0]:
-                    self.assertIn(promise, found, (protocol.commit, protocol.recovery))
+                if weights[promise][1] <= 2 and (not queue or weights[promise] < queue[0][0]):
+                    self.assertEqual(found.get(promise), weights[promise], (protocol.commit, protocol.recovery))
         self.assertGreater(met, 10)
 
     def test_questions(self):
